@@ -1,0 +1,1 @@
+"""The room: two desks, at which the sheets of books are computed and then checked."""
