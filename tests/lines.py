@@ -4,7 +4,9 @@ from itertools import permutations
 
 from twodesks.room import answers
 
-NOW, ENDS, TIMES, WAITS, LEAST, BEST, LEFT = [[number] for number in range(3, 10)]
+NOW, ENDS, TIMES, WAITS, LEAST, BEST, LEFT, NEXT, RULE = [[number] for number in range(3, 12)]
+CRITICAL, BOOKS, CLEAR = [13], [18], [19]
+FAR = 9223372036854775807
 
 
 def book(*sheets):
@@ -17,6 +19,26 @@ def empty(desk, *stretches):
 
 def order(*books):
     return [2, len(books), *books]
+
+
+def block(number):
+    return [12, number]
+
+
+def judge(borne, *workings):
+    return [14, borne, len(workings), *workings]
+
+
+def more(borne, *workings):
+    return [15, borne, len(workings), *workings]
+
+
+def blocks(*books):
+    return [16, len(books), *books]
+
+
+def swap(place):
+    return [17, place]
 
 
 def line_of(calls):

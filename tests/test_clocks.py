@@ -1,10 +1,11 @@
-"""The calls that ask for the clocks of the order: now, ends, times, waits."""
+"""The calls that ask for the clocks of the order: now, ends, times, waits, swap."""
 
 import random
 import unittest
 
 from lines import (
-    ENDS, NOW, TIMES, WAITS, answered, book, empty, last_answer, order, slow_times, slow_whole_orders, some_rooms, told,
+    ENDS, FAR, NOW, TIMES, WAITS, answered, book, empty, last_answer, order, slow_times, slow_whole_orders, some_rooms,
+    swap, told,
 )
 
 from twodesks.clocks import work_done
@@ -94,6 +95,58 @@ class Clocks(unittest.TestCase):
                 [len(row)] + [moment for pair in times for moment in pair],
                 [len(row)] + waits,
             ])
+
+
+class Swap(unittest.TestCase):
+    BEFORE = [book(3, 2, 1, 4), book(1, 5), order(0, 1, 0)]
+
+    def test_the_first_and_the_last_place(self):
+        # 1 0 0, and 0 0 1.
+        self.assertEqual(answered(*self.BEFORE, swap(0), swap(1))[3:], [[5, 12], [5, 14]])
+        self.assertEqual(last_answer(book(9, 1), book(1, 9), order(0, 1), swap(0)), [10, 11])
+        self.assertEqual(last_answer(book(9, 1), book(1, 9), order(1, 0), swap(0)), [10, 19])
+
+    def test_out_of_range(self):
+        for place in (2, 3, -1, -2, FAR, -FAR - 1):
+            self.assertEqual(last_answer(*self.BEFORE, swap(place)), [-1])
+            self.assertEqual(last_answer(*self.BEFORE, empty(1, 2, 4), swap(place)), [-1])
+
+    def test_of_fewer_than_two_sheets(self):
+        for before in ([], [book(3, 2)], [book(3, 2), order(0)], [book(3, 2, 1, 4), order(0)]):
+            for place in (0, -1, 1):
+                self.assertEqual(last_answer(*before, swap(place)), [-1])
+
+    def test_the_same_book_at_both_places(self):
+        self.assertEqual(last_answer(book(3, 2, 1, 4), order(0, 0), swap(0)), [4, 9])
+        before = [book(3, 2, 1, 4), book(1, 5), order(1, 0, 0)]
+        self.assertEqual(answered(*before, swap(0), swap(1), ENDS)[3:], [[5, 14], [5, 12], [5, 12, 1]])
+
+    def test_the_sheets_of_a_book_stay_in_their_order(self):
+        # Behind the exchange the row is 1 0 0 with the sheets 2 9, 1 1, 8 1.
+        self.assertEqual(last_answer(book(1, 1, 8, 1), book(2, 9), order(0, 1, 0), swap(0)), [11, 13])
+
+    def test_of_a_begun_order(self):
+        self.assertEqual(last_answer(book(3, 2, 1, 4), book(1, 5), order(0, 1), swap(0)), [4, 8])
+
+    def test_the_order_stays_as_it_was(self):
+        self.assertEqual(answered(*self.BEFORE, swap(0), NOW, ENDS, swap(5), NOW, swap(0), swap(1), NOW)[3:],
+                         [[5, 12], [3, 0, 1, 0], [5, 14, 1], [-1], [3, 0, 1, 0], [5, 12], [5, 14], [3, 0, 1, 0]])
+
+    def test_with_empty_times(self):
+        self.assertEqual(last_answer(*self.BEFORE, empty(1, 2, 4), swap(0)), [7, 12])
+        self.assertEqual(last_answer(*self.BEFORE, empty(2, 2, 4), swap(0)), [5, 14])
+        self.assertEqual(last_answer(*self.BEFORE, empty(1, 0, 3), empty(2, 5, 6), swap(0)), [8, 16])
+
+    def test_the_same_as_moment_by_moment(self):
+        chance = random.Random(9)
+        for books, empties in some_rooms(chance, 100):
+            row = list(chance.choice(slow_whole_orders(books)))
+            row = row[:chance.randint(0, len(row))] if chance.randint(0, 1) else row
+            for place in range(len(row) - 1):
+                exchanged = list(row)
+                exchanged[place:place + 2] = [row[place + 1], row[place]]
+                self.assertEqual(last_answer(*told(books, empties), order(*row), swap(place)),
+                                 list(slow_times(books, empties, exchanged)[-1]))
 
 
 if __name__ == "__main__":

@@ -48,6 +48,15 @@ def bound_names(nodes):
     return names
 
 
+def own_methods_of_the_package():
+    """The methods of the package's classes, but those with two underscores."""
+    methods = []
+    for name in files_of_the_package():
+        for kind in [node for node in nodes_of(name) if isinstance(node, ast.ClassDef)]:
+            methods += [node.name for node in kind.body if isinstance(node, ast.FunctionDef)]
+    return [word for word in methods if not word.startswith("__")]
+
+
 class Form(unittest.TestCase):
     def test_files(self):
         for name in files_of_the_package():
@@ -99,10 +108,13 @@ class Form(unittest.TestCase):
                     self.assertIn(node.id, OWN_NAMES, name)
 
     def test_methods(self):
+        own = own_methods_of_the_package()
+        for word in own:
+            self.assertFalse(any(hasattr(kind, word) for kind in (str, int, list, dict, set, bytes)), word)
         for name in files_of_the_package():
             for node in nodes_of(name):
                 if isinstance(node, ast.Call) and isinstance(node.func, ast.Attribute):
-                    self.assertIn(node.func.attr, OWN_METHODS, name)
+                    self.assertIn(node.func.attr, OWN_METHODS + own, name)
 
     def test_the_interface_is_there(self):
         defs = [node.name for node in ast.parse(text_of("room.py")).body if isinstance(node, ast.FunctionDef)]

@@ -1,11 +1,13 @@
-"""The calls that tell the room something: book, empty, order."""
+"""The calls that tell the room something, book, empty, order and clear, and what has been told: books."""
 
 import unittest
 
-from lines import BEST, ENDS, LEAST, LEFT, NOW, TIMES, WAITS, answered, book, empty, last_answer, order
+from lines import (
+    BEST, BOOKS, CLEAR, CRITICAL, ENDS, FAR, LEAST, LEFT, NEXT, NOW, RULE, TIMES, WAITS, answered, block, blocks, book,
+    empty, last_answer, order, swap,
+)
 
-FAR = 9223372036854775807
-ASKED = [NOW, ENDS, TIMES, WAITS, LEAST, BEST, LEFT]
+ASKED = [NOW, ENDS, TIMES, WAITS, LEAST, BEST, LEFT, NEXT, RULE, block(0), CRITICAL, blocks(0), swap(0), BOOKS]
 
 
 class Refusals(unittest.TestCase):
@@ -145,6 +147,57 @@ class Order(unittest.TestCase):
     def test_stays_told_when_empty_times_change(self):
         self.assertEqual(answered(book(3, 2), order(0), empty(1, 1, 2), NOW, ENDS, empty(2, 4, 9), NOW, ENDS),
                          [[0], [1], [1], [1, 0], [4, 6, 1], [1], [1, 0], [4, 11, 1]])
+
+
+class Books(unittest.TestCase):
+    def test_none(self):
+        self.assertEqual(answered(BOOKS, empty(1, 0, 4), order(), BOOKS), [[0], [1], [1], [0]])
+
+    def test_several(self):
+        self.assertEqual(answered(book(3, 2, 1, 4), BOOKS, book(1, 5), BOOKS, book(0, 1000), BOOKS)[1::2],
+                         [[1, 2, 3, 2, 1, 4], [2, 2, 3, 2, 1, 4, 1, 1, 5], [3, 2, 3, 2, 1, 4, 1, 1, 5, 1, 0, 1000]])
+
+    def test_as_many_as_may_be(self):
+        six = list(range(12))
+        self.assertEqual(last_answer(book(*six), book(*six), BOOKS), [2, 6, *six, 6, *six])
+        three = [7, 8, 9, 10, 11, 12]
+        self.assertEqual(last_answer(*[book(*three)] * 4, BOOKS), [4] + [3, *three] * 4)
+
+    def test_a_refused_one_is_not_in_it(self):
+        before = [book(1, 1), book(), book(2, 1001), book(3), book(4, 4)]
+        self.assertEqual(last_answer(*before, BOOKS), [2, 1, 1, 1, 1, 4, 4])
+        self.assertEqual(last_answer(*before, book(5, 5), book(6, 6), book(7, 7), BOOKS),
+                         [4, 1, 1, 1, 1, 4, 4, 1, 5, 5, 1, 6, 6])
+
+    def test_order_and_empty_times_are_nothing_to_it(self):
+        self.assertEqual(last_answer(book(3, 2, 1, 4), empty(1, 0, 4), empty(2, 1, 2), order(0, 0), BOOKS),
+                         [1, 2, 3, 2, 1, 4])
+
+
+class Clear(unittest.TestCase):
+    FULL = [book(3, 2, 1, 4), book(1, 5), empty(1, 2, 4), empty(2, 0, 9, 9, 12), order(0, 1, 0)]
+
+    def test_answers_nought(self):
+        self.assertEqual(answered(CLEAR, CLEAR), [[0], [0]])
+        self.assertEqual(last_answer(*self.FULL, CLEAR), [0])
+
+    def test_all_is_as_before_the_first_call(self):
+        self.assertEqual(answered(*self.FULL, CLEAR, *ASKED)[len(self.FULL) + 1:], answered(*ASKED))
+
+    def test_what_is_told_behind_it(self):
+        asked = [*self.FULL, *ASKED, book(7, 7), empty(1), order(2), *ASKED]
+        self.assertEqual(answered(*self.FULL, order(1), CLEAR, *asked)[len(self.FULL) + 2:], answered(*asked))
+
+    def test_each_thing_for_itself(self):
+        self.assertEqual(answered(book(1, 1), CLEAR, book(3, 2), BOOKS), [[0], [0], [0], [1, 1, 3, 2]])
+        self.assertEqual(last_answer(empty(1, 0, 9), CLEAR, book(3, 2), order(0), ENDS), [3, 5, 1])
+        self.assertEqual(last_answer(empty(2, 0, 9), CLEAR, book(3, 2), order(0), RULE), [1, 0, 5])
+        self.assertEqual(answered(book(3, 2), order(0), CLEAR, NOW, book(3, 2), NOW)[3:], [[0], [0], [0]])
+
+    def test_as_many_books_as_may_be_once_more(self):
+        four = [book(1, 1, 1, 1, 1, 1)] * 4
+        self.assertEqual(answered(*four, book(1, 1), CLEAR, *four, book(1, 1)),
+                         [[0], [1], [2], [3], [-3], [0], [0], [1], [2], [3], [-3]])
 
 
 if __name__ == "__main__":

@@ -1,19 +1,26 @@
 """The room's calls: what is told to it, and what it answers."""
 
+from twodesks.blocks import block_end, books_by_rule, hanging_place, lead_and_tail, three_numbers
 from twodesks.clocks import (
     count_sheets,
     count_whole_orders,
     first_best_order,
     first_standing,
     least_end,
+    standing_behind,
     standings_along,
 )
+from twodesks.workings import more_workings, told_that_can_be_right, untold_can_be_right, verdict
 
 
 class Room:
     """What one line of calls has told so far."""
 
     def __init__(self):
+        self.forget_all()
+
+    def forget_all(self):
+        """All is as before the first call."""
         self.books = []
         self.empties = [[], []]
         self.order = []
@@ -43,6 +50,16 @@ def whole_flag(room):
     """1 if the room's order is whole, else 0."""
     # No book is in the order more often than it has sheets, so to count them is enough.
     return int(len(room.order) == count_sheets(room.books))
+
+
+def is_book(room, number):
+    """Whether there is a book of this number."""
+    return 0 <= number < len(room.books)
+
+
+def has_empty_times(room):
+    """Whether a desk has empty times."""
+    return room.empties != [[], []]
 
 
 # Each function below answers one call. It's given the room and the numbers behind the call's own:
@@ -138,6 +155,105 @@ def tell_left(room, numbers):
     return [least_end(room.books, room.empties, standings_of(room)[-1])]
 
 
+def tell_next(room, numbers):
+    """next: for each book the least end of all whole orders that begin with the order and it."""
+    standing = standings_of(room)[-1]
+    ends = []
+    for book in range(len(room.books)):
+        further = standing_behind(room.books, room.empties, standing, book)
+        if further is None:
+            ends.append(-1)
+        else:
+            ends.append(least_end(room.books, room.empties, further))
+    return as_list(ends)
+
+
+def tell_rule(room, numbers):
+    """rule: all books by the two-desk rule, and the end, if they're done so."""
+    if has_empty_times(room):
+        return [-7]
+    row = books_by_rule(room.books)
+    return as_list(row) + [block_end(room.books, row)]
+
+
+def tell_block(room, numbers):
+    """block: a book's three numbers, its lead, its tail."""
+    book = numbers[0]
+    if not is_book(room, book):
+        return [-1]
+    return three_numbers(room.books, book) + lead_and_tail(room.books, book)
+
+
+def tell_critical(room, numbers):
+    """critical: the place of the sheet on which the end of the order hangs."""
+    if has_empty_times(room):
+        return [-7]
+    if len(room.order) == 0:
+        return [-5]
+    return [hanging_place(room.books, room.order)]
+
+
+def are_workings(numbers):
+    """Whether these numbers tell how many slips are borne, and then workings."""
+    borne = numbers[0]
+    workings = numbers[1:]
+    return 0 <= borne <= 10 and len(workings) <= 30 and all_within(workings, -1000000000, 1000000000)
+
+
+def judge_workings(room, numbers):
+    """judge: whether it's sure, and which numbers can be right."""
+    if not are_workings(numbers):
+        return [-1]
+    borne = numbers[0]
+    workings = numbers[1:]
+    flags = [verdict(borne, workings), int(untold_can_be_right(borne, workings))]
+    return flags + as_list(told_that_can_be_right(borne, workings))
+
+
+def tell_more(room, numbers):
+    """more: how many workings more make it sure at the earliest, and at the latest."""
+    if not are_workings(numbers):
+        return [-1]
+    return more_workings(numbers[0], numbers[1:])
+
+
+def tell_blocks(room, numbers):
+    """blocks: the end, if these books alone are done, one wholly behind the other."""
+    for book in numbers:
+        if not is_book(room, book) or numbers.count(book) > 1:
+            return [-1]
+    if has_empty_times(room):
+        return [-7]
+    return [block_end(room.books, numbers)]
+
+
+def tell_swap(room, numbers):
+    """swap: the clocks behind the order, if a sheet's book and the next one's are exchanged."""
+    place = numbers[0]
+    if not 0 <= place <= len(room.order) - 2:
+        return [-1]
+    swapped = list(room.order)
+    swapped[place] = room.order[place + 1]
+    swapped[place + 1] = room.order[place]
+    return list(standings_along(room.books, room.empties, swapped)[-1][1])
+
+
+def tell_books(room, numbers):
+    """books: of each book how many sheets it has, and both times of each."""
+    answer = [len(room.books)]
+    for sheets in room.books:
+        answer.append(len(sheets))
+        for sheet in sheets:
+            answer.extend(sheet)
+    return answer
+
+
+def clear_all(room, numbers):
+    """clear: all is as before the first call."""
+    room.forget_all()
+    return [0]
+
+
 # A call's number: what answers it, how many arguments it has, whether a list comes behind them.
 CALLS = {
     0: (add_book, 0, True),
@@ -150,6 +266,16 @@ CALLS = {
     7: (tell_least, 0, False),
     8: (tell_best, 0, False),
     9: (tell_left, 0, False),
+    10: (tell_next, 0, False),
+    11: (tell_rule, 0, False),
+    12: (tell_block, 1, False),
+    13: (tell_critical, 0, False),
+    14: (judge_workings, 1, True),
+    15: (tell_more, 1, True),
+    16: (tell_blocks, 0, True),
+    17: (tell_swap, 1, False),
+    18: (tell_books, 0, False),
+    19: (clear_all, 0, False),
 }
 
 
